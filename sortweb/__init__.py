@@ -1,0 +1,1 @@
+"""Sortweb: webs of comparers that put rows in order."""
