@@ -4,8 +4,9 @@ import itertools
 import re
 import unittest
 
-from oddities import Sulky, no_lists, no_texts, no_tuples, no_whole_numbers
-from sortweb.errors import BadLines, BadText, BadWeb
+from oddities import no_texts
+from refusals import RefusesNoWebs
+from sortweb.errors import BadText
 from sortweb.texts import web_of, web_text
 
 # Figures of other scripts, blanks of many kinds, and signs that look like those of a text.
@@ -69,31 +70,8 @@ class WebText(unittest.TestCase):
         self.assertEqual(web_text(4, comparers), "4: 0-1 3-2")
 
 
-class WebTextRefused(unittest.TestCase):
-    def refused_at(self, place, lines, comparers):
-        with self.assertRaises(BadWeb) as caught:
-            web_text(lines, comparers)
-        self.assertEqual(caught.exception.place, place)
-
-    def test_lines(self):
-        for lines in no_whole_numbers() + [0, 11, -1, True, False]:
-            for comparers in ([], [(0, 1)], None, [None], [(0, 1)] * 61, Sulky()):
-                with self.assertRaises(BadLines):
-                    web_text(lines, comparers)
-
-    def test_webs_as_a_whole(self):
-        for comparers in no_lists() + [[(0, 1)] * 61, [None] * 61]:
-            self.refused_at(None, 2, comparers)
-
-    def test_webs_at_a_place(self):
-        for comparer in no_tuples() + [(), (0,), (0, 1, 0), (0, 0), (0, 2), (-1, 0), (0, True), (False, 1), (0, "1")]:
-            self.refused_at(0, 2, [comparer, None])
-            self.refused_at(1, 2, [(0, 1), comparer, (1, 1)])
-
-    def test_what_is_refused_stays_as_it_was(self):
-        comparers = [(0, 1), [1, 0]]
-        self.refused_at(1, 2, comparers)
-        self.assertEqual(comparers, [(0, 1), [1, 0]])
+class WebTextRefused(RefusesNoWebs, unittest.TestCase):
+    ASKS = [web_text]
 
 
 class WebOf(unittest.TestCase):
