@@ -43,5 +43,9 @@ def first_row(lines, rows):
     """The first one of the rows that have a bit, as it goes in: a list; None where none has."""
     if rows == 0:
         return None
-    number = (rows & -rows).bit_length() - 1
+    return row_of(lines, (rows & -rows).bit_length() - 1)
+
+
+def row_of(lines, number):
+    """The row of that number, a list of its own."""
     return [(number >> line) & 1 for line in range(lines)]
